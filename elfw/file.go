@@ -7,28 +7,15 @@ import (
 	"quoin/le"
 	"quoin/rela"
 	"quoin/sect"
+	"quoin/shape"
 	"quoin/strtab"
 	"quoin/sym"
 )
 
 const (
-	fileHeadSize = 64
-	headSize     = 64
-	headsAlign   = 8
+	headsAlign = 8
 	// Of symbols and relocations alike.
-	entrySize  = 24
 	entryAlign = 8
-	numberSize = 4
-)
-
-// The types of heads.
-const (
-	typeBytes   = 1
-	typeSymbols = 2
-	typeNames   = 3
-	typeRelas   = 4
-	typeNone    = 8
-	typeGroup   = 17
 )
 
 // The flags of heads beside those of a kind.
@@ -56,7 +43,7 @@ type file struct {
 // gather is the file of o, which may be.
 func gather(o api.Object) *file {
 	f := &file{
-		bytes:     make([]byte, fileHeadSize),
+		bytes:     make([]byte, shape.FileHead),
 		heads:     []api.Head{{}},
 		names:     []string{""},
 		symbolsAt: 1 + len(o.Sections) + len(o.Groups) + manyWithRelas(o.Relas),
@@ -124,9 +111,9 @@ func (f *file) putSections(o api.Object) {
 			return
 		}
 		// Noughts that have no bytes are told by the Size that the part begins with; it is 0 of all others.
-		h := api.Head{Type: typeBytes, Flags: kindFlags[kind], Size: s.Size, Align: s.Align}
+		h := api.Head{Type: shape.TypeBytes, Flags: kindFlags[kind], Size: s.Size, Align: s.Align}
 		if kind == api.KindBss {
-			h.Type = typeNone
+			h.Type = shape.TypeNone
 		}
 		if isInGroup(i+1, o.Groups) {
 			h.Flags += flagGroup
@@ -145,11 +132,11 @@ func isInGroup(number int, groups []api.Group) bool {
 
 func (f *file) putGroups(o api.Object) {
 	for _, g := range o.Groups {
-		f.begin(".group."+g.Sign, api.Head{Type: typeGroup, Link: f.symbolsAt, Align: numberSize, Entry: numberSize})
+		f.begin(shape.GroupName+g.Sign, api.Head{Type: shape.TypeGroup, Link: f.symbolsAt, Align: shape.Number, Entry: shape.Number})
 		// That its sections are there once.
-		f.put(le.Put(1, numberSize))
+		f.put(le.Put(1, shape.Number))
 		for _, number := range g.Sections {
-			f.put(le.Put(number, numberSize))
+			f.put(le.Put(number, shape.Number))
 		}
 	}
 }
@@ -160,7 +147,7 @@ func (f *file) putRelas(o api.Object) {
 		// They stand by section, so that another one's begin a part.
 		if r.Section != last {
 			name := ".rela" + o.Sections[r.Section-1].Name
-			f.begin(name, api.Head{Type: typeRelas, Flags: flagInfo, Link: f.symbolsAt, Info: r.Section, Align: entryAlign, Entry: entrySize})
+			f.begin(name, api.Head{Type: shape.TypeRelas, Flags: flagInfo, Link: f.symbolsAt, Info: r.Section, Align: entryAlign, Entry: shape.Entry})
 			last = r.Section
 		}
 		f.put(rela.Write(r))
@@ -182,22 +169,22 @@ func (f *file) putSymbols(o api.Object) {
 		return
 	}
 	f.symbolNames = table
-	f.begin(".symtab", api.Head{Type: typeSymbols, Link: f.symbolsAt + 1, Info: locals + 1, Align: entryAlign, Entry: entrySize})
+	f.begin(".symtab", api.Head{Type: shape.TypeSymbols, Link: f.symbolsAt + 1, Info: locals + 1, Align: entryAlign, Entry: shape.Entry})
 	// The first one is none.
-	f.put(make([]byte, entrySize), api.OK)
+	f.put(make([]byte, shape.Entry), api.OK)
 	for i, s := range o.Symbols {
 		f.put(sym.Write(s, places[i]))
 	}
 }
 
 func (f *file) putSymbolNames(api.Object) {
-	f.begin(".strtab", api.Head{Type: typeNames, Align: 1})
+	f.begin(".strtab", api.Head{Type: shape.TypeNames, Align: 1})
 	f.put(f.symbolNames, api.OK)
 }
 
 // putHeadNames puts the table of the heads' names, its own among them.
 func (f *file) putHeadNames(api.Object) {
-	f.begin(".shstrtab", api.Head{Type: typeNames, Align: 1})
+	f.begin(".shstrtab", api.Head{Type: shape.TypeNames, Align: 1})
 	table, places, e := strtab.Build(f.names)
 	f.put(table, e)
 	for i, at := range places {
@@ -217,9 +204,10 @@ func (f *file) putHeads(api.Object) {
 
 // fileHead is the file's head, the heads being at the place at.
 func (f *file) fileHead(at int) []byte {
-	// Its sign; 64 bits, the lowest byte first, and the version.
-	b := make([]byte, 0, fileHeadSize)
-	b = append(b, 127, 'E', 'L', 'F', 2, 1, 1, 0)
+	b := make([]byte, 0, shape.FileHead)
+	b = append(b, shape.Sign...)
+	// 64 bits, the lowest byte first, and the version.
+	b = append(b, 2, 1, 1, 0)
 	b = append(b, make([]byte, 8)...)
 	many := len(f.heads)
 	for _, field := range []struct{ number, size int }{
@@ -228,7 +216,7 @@ func (f *file) fileHead(at int) []byte {
 		// Entry, and the places of programs' heads and of sections'.
 		{0, 8}, {0, 8}, {at, 8},
 		// Flags, and the sizes and numbers of the heads.
-		{1, 4}, {fileHeadSize, 2}, {0, 2}, {0, 2}, {headSize, 2}, {many, 2}, {many - 1, 2},
+		{1, 4}, {shape.FileHead, 2}, {0, 2}, {0, 2}, {shape.Head, 2}, {many, 2}, {many - 1, 2},
 	} {
 		part, e := le.Put(field.number, field.size)
 		if e != api.OK {
